@@ -1,0 +1,70 @@
+"""Rows of figures, without any errors: products, stairs, ranks and ties."""
+
+
+def inverse(base, figure):
+    """The figure that makes 1 with a figure other than 0."""
+    other = 1
+    while figure * other % base != 1:
+        other += 1
+    return other
+
+
+def row_times(base, row, other):
+    """The figure that row times row is."""
+    return sum([left * right for left, right in zip(row, other)]) % base
+
+
+def multiple(base, figure, row):
+    """The row, multiplied by the figure."""
+    return [figure * one % base for one in row]
+
+
+def cleared(base, row, lead, place):
+    """The row less the multiple of a lead row, 1 at the place, that leaves it 0 there."""
+    figure = row[place]
+    if figure == 0:
+        return row
+    return [(one - figure * less) % base for one, less in zip(row, lead)]
+
+
+def lead_index(rows, place):
+    """The index of the first row that has not 0 at the place, None if all have."""
+    for index, row in enumerate(rows):
+        if row[place] != 0:
+            return index
+    return None
+
+
+def stairs(base, rows):
+    """The base in stairs of all sums of multiples of one or more rows, () if nought is the only one."""
+    found = []
+    left = list(rows)
+    for place in range(len(rows[0])):
+        index = lead_index(left, place)
+        if index is not None:
+            chosen = left.pop(index)
+            lead = multiple(base, inverse(base, chosen[place]), chosen)
+            found = [cleared(base, row, lead, place) for row in found]
+            found.append(lead)
+            left = [cleared(base, row, lead, place) for row in left]
+    return tuple([tuple(row) for row in found])
+
+
+def rank(base, rows):
+    """The greatest number of free ones among one or more rows."""
+    return len(stairs(base, rows))
+
+
+def unit_row(length, place):
+    """The row with 1 at the place alone."""
+    return tuple([1 if other == place else 0 for other in range(length)])
+
+
+def ties(base, rows):
+    """The base in stairs of all ties of one or more rows, () if the rows are free."""
+    many = len(rows)
+    width = len(rows[0])
+    # A unit row behind each row keeps count of which multiples a sum is made of. The rows in
+    # stairs that begin with nought for a whole row so end with ties, and these are in stairs, too.
+    marked = [tuple(row) + unit_row(many, index) for index, row in enumerate(rows)]
+    return tuple([row[width:] for row in stairs(base, marked) if not any(row[:width])])

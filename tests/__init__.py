@@ -1,0 +1,1 @@
+"""Tests of evennets: run them all with `bash .ci/run`."""
