@@ -26,6 +26,15 @@ def is_row(base, value, least, most):
     return all([is_figure(base, one) for one in value])
 
 
+def are_rows(base, value, most_rows, most_figures):
+    """Whether a value, whatever it is, are rows of one length, at least one of at least one figure."""
+    if not isinstance(value, tuple) or not 1 <= len(value) <= most_rows:
+        return False
+    if not all([is_row(base, row, 1, most_figures) for row in value]):
+        return False
+    return all([len(row) == len(value[0]) for row in value])
+
+
 def check_base(base):
     """Raise InvalidBase for what is no base."""
     if not is_base(base):

@@ -35,11 +35,16 @@ def lead_index(rows, place):
     return None
 
 
+def length_of(rows):
+    """How many figures each of the rows has, 0 if there are no rows."""
+    return len(rows[0]) if len(rows) > 0 else 0
+
+
 def stairs(base, rows):
-    """The base in stairs of all sums of multiples of one or more rows, () if nought is the only one."""
+    """The base in stairs of all sums of multiples of the rows, () if nought is the only one."""
     found = []
     left = list(rows)
-    for place in range(len(rows[0])):
+    for place in range(length_of(rows)):
         index = lead_index(left, place)
         if index is not None:
             chosen = left.pop(index)
@@ -51,7 +56,7 @@ def stairs(base, rows):
 
 
 def rank(base, rows):
-    """The greatest number of free ones among one or more rows."""
+    """The greatest number of free ones among the rows."""
     return len(stairs(base, rows))
 
 
@@ -61,10 +66,51 @@ def unit_row(length, place):
 
 
 def ties(base, rows):
-    """The base in stairs of all ties of one or more rows, () if the rows are free."""
+    """The base in stairs of all ties of the rows, () if these are free."""
     many = len(rows)
-    width = len(rows[0])
+    width = length_of(rows)
     # A unit row behind each row keeps count of which multiples a sum is made of. The rows in
     # stairs that begin with nought for a whole row so end with ties, and these are in stairs, too.
     marked = [tuple(row) + unit_row(many, index) for index, row in enumerate(rows)]
     return tuple([row[width:] for row in stairs(base, marked) if not any(row[:width])])
+
+
+def columns(rows, width):
+    """The columns of rows of so many figures, each one () if there are no rows."""
+    return tuple([tuple([row[place] for row in rows]) for place in range(width)])
+
+
+def first_place(row):
+    """The first place at which a row has not 0, None for nought."""
+    for place, figure in enumerate(row):
+        if figure != 0:
+            return place
+    return None
+
+
+def rest(base, span, row):
+    """What a span leaves of a row: nought exactly if the row is a sum of multiples of its rows.
+
+    A span holds free rows, each as a pair of a place and a row that has 1 there; at this place
+    all rows behind it have 0.
+    """
+    for place, lead in span:
+        row = cleared(base, row, lead, place)
+    return row
+
+
+def widened(base, span, row):
+    """The span with a further row, the span itself if the row is a sum of multiples of its rows."""
+    left = rest(base, span, row)
+    place = first_place(left)
+    if place is None:
+        return span
+    return span + ((place, tuple(multiple(base, inverse(base, left[place]), left))),)
+
+
+def span_of(base, rows):
+    """The span of the rows."""
+    span = ()
+    for row in rows:
+        span = widened(base, span, row)
+    return span

@@ -1,7 +1,7 @@
 """Nets, their starts, and the points and places that these make."""
 
 from evennets.errors import InvalidNet, InvalidStart, TooMany
-from evennets.figures import is_base, is_row
+from evennets.figures import are_rows, is_base, is_row
 from evennets.linear import row_times
 from evennets.wholes import power, reduced
 
@@ -13,11 +13,7 @@ MOST_STARTS = 4096
 
 def is_table(base, value):
     """Whether a value, whatever it is, is a table of 1 to 12 rows of one length, 1 to 12."""
-    if not isinstance(value, tuple) or not 1 <= len(value) <= MOST_DEPTH:
-        return False
-    if not all([is_row(base, row, 1, MOST_WIDTH) for row in value]):
-        return False
-    return all([len(row) == len(value[0]) for row in value])
+    return are_rows(base, value, MOST_DEPTH, MOST_WIDTH)
 
 
 def is_of_size(table, depth, width):
@@ -53,6 +49,11 @@ def check_net(net):
 def width_of(net):
     """How many figures a start of the net has."""
     return len(net[1][0][0])
+
+
+def depth_of(net):
+    """How many rows each table of the net has."""
+    return len(net[1][0])
 
 
 def check_start(net, start):

@@ -61,6 +61,37 @@ def made_net(seed, base, dimensions, depth, width):
     return base, tuple(rows[at * depth:(at + 1) * depth] for at in range(dimensions))
 
 
+def table_of(depth, width, figure=1):
+    """A table of that size, all of whose figures are the same."""
+    return ((figure,) * width,) * depth
+
+
+def put(value, path, new):
+    """The nested tuple with a new value where the path of indexes leads."""
+    if not path:
+        return new
+    at = path[0]
+    return value[:at] + (put(value[at], path[1:], new),) + value[at + 1:]
+
+
+def wrong_nets():
+    """Values that are no nets, most of them just beyond a bound or with one wrong part."""
+    table = table_of(2, 3)
+    wrong = [
+        (2, ()), (2, (table,) * 7), (2, ((),)), (2, (table_of(13, 2),)), (2, (table_of(1, 0),)),
+        (2, (table_of(1, 13),)), (2, (table_of(12, 13),)), (2, (table, ())), (2, ((), table)),
+        (2, (table, table_of(1, 3))), (2, (table, table_of(3, 3))), (2, (table_of(1, 3), table, table)),
+        (2, (table, table_of(2, 2))), (2, (table, table_of(2, 4))), (2, (table_of(2, 1), table, table)),
+        (2, (((1, 1, 1), (1, 1)),)), (2, (((1, 1), (1, 1, 1)),)), (2, (table, ((1, 1, 1), (1, 1)))),
+        (2, table), (2, (1, 1)), (2, None), (2,), (table,), ((table,), 2), (2, (table,), ()), (2, (table,), None),
+        [2, (table,)], (2, [table]), (2, ([(1, 1)],)), (2, ([1, 1],)), (2, (([1, 1],),)), (2, (((1, 1), [1, 1]),)),
+        (2, {0: table}), {2: (table,)}, (True, (table,)), (2, (((True, 0),),)), (2, (((0, False),),)),
+        (2, (((1, 2),),)), (2, (((-1, 1),),)), (2, (((1, None),),)), (2, ((("1", 0),),)), (2, (("10", "01"),)),
+        (2, ((b"\x01",),)), (3, (((3,),),)), (5, (((5,),),)), (7, (((7,),),)), (table_of(2, 2),), "net",
+        (2, (table_of(10 ** 5, 1),)), (2, (table_of(1, 10 ** 5),)), (2, (table,) * 10 ** 5), (2,) * 10 ** 5]
+    return wrong + [(base, (table_of(1, 1),)) for base in never_bases()]
+
+
 def all_rows(base, length):
     """All rows of so many figures."""
     return itertools.product(range(base), repeat=length)
