@@ -26,6 +26,11 @@ def check_shape(net, shape):
         raise InvalidShape(shape)
 
 
+def are_within(lesser, depths):
+    """Whether depths are within others."""
+    return all([one <= most for one, most in zip(lesser, depths)])
+
+
 def full_depths(net):
     """The depths that let all rows of the net in."""
     return (depth_of(net),) * len(net[1])

@@ -3,8 +3,9 @@
 from evennets.depths import all_rows, full_depths, least_uneven, tie_within
 from evennets.errors import InvalidWords, TooMany, UnlikeNets
 from evennets.figures import are_rows, check_base
-from evennets.linear import columns, rest, row_times, span_of, stairs, ties, unit_row
-from evennets.nets import MOST_DEPTH, MOST_DIMENSIONS, MOST_WIDTH, check_net, is_of_size, width_of
+from evennets.limits import MOST_DEPTH, MOST_DIMENSIONS, MOST_WIDTH
+from evennets.linear import columns, rest, span_of, stairs, sum_of_rows, ties, unit_row
+from evennets.nets import check_net, is_of_size, width_of
 from evennets.words import check_word, flat_row, parted, shape_of_word, word_within
 
 
@@ -19,9 +20,14 @@ def check_words(base, words):
             raise InvalidWords(index)
 
 
+def are_like_nets(net, other):
+    """Whether nets are of one base, as many dimensions and one depth."""
+    return net[0] == other[0] and full_depths(net) == full_depths(other)
+
+
 def check_alike(net, other):
     """Raise UnlikeNets for nets of unlike bases, numbers of dimensions or depths."""
-    if net[0] != other[0] or full_depths(net) != full_depths(other):
+    if not are_like_nets(net, other):
         raise UnlikeNets()
 
 
@@ -30,6 +36,11 @@ def check_both(net, other):
     check_net(net)
     check_net(other)
     check_alike(net, other)
+
+
+def word_sum(net, word):
+    """The sum of all rows of the net, each times the word's figure: a start times it is what the word weighs."""
+    return sum_of_rows(net[0], flat_row(word), all_rows(net))
 
 
 def shape_of(net, word):
@@ -50,8 +61,7 @@ def is_dual(net, word):
     """Whether a word of the net is a dual word of it."""
     check_net(net)
     check_word(net, word)
-    factors = flat_row(word)
-    return not any([row_times(net[0], factors, column) for column in columns(all_rows(net), width_of(net))])
+    return not any(word_sum(net, word))
 
 
 def dual_base(net):
@@ -110,3 +120,11 @@ def outside_start(net, other):
     check_both(net, other)
     place = outside_place(net, other)
     return None if place is None else unit_row(width_of(net), place)
+
+
+def outside_word(net, other):
+    """The first one of the base of the dual words of `other` that is no dual word of `net`, None if all are."""
+    for word in dual_base(other):
+        if any(word_sum(net, word)):
+            return word
+    return None

@@ -25,6 +25,11 @@ def empty_box(net, depths):
     return word_within(net, depths, tie), box
 
 
+def most_strength(net):
+    """The width of the net, or the number of all its rows if that is less: no strength is greater."""
+    return min(width_of(net), sum(full_depths(net)))
+
+
 def strength(net):
     """The greatest size, up to the width and the number of all rows, all depths of which are even."""
     check_net(net)

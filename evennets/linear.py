@@ -14,6 +14,11 @@ def row_times(base, row, other):
     return sum([left * right for left, right in zip(row, other)]) % base
 
 
+def rows_times(base, rows, row):
+    """The figures that all the rows make with one row, each times it."""
+    return tuple([row_times(base, one, row) for one in rows])
+
+
 def multiple(base, figure, row):
     """The row, multiplied by the figure."""
     return [figure * one % base for one in row]
@@ -78,6 +83,21 @@ def ties(base, rows):
 def columns(rows, width):
     """The columns of rows of so many figures, each one () if there are no rows."""
     return tuple([tuple([row[place] for row in rows]) for place in range(width)])
+
+
+def sum_of_rows(base, factors, rows):
+    """The sum of one or more rows, each times the figure at its index."""
+    return rows_times(base, columns(rows, length_of(rows)), factors)
+
+
+def row_sums(base, rows, length):
+    """All sums of rows of so many figures, each times a figure: one for each choice of these."""
+    found = [(0,) * length]
+    for row in rows:
+        multiples = [multiple(base, figure, row) for figure in range(base)]
+        found = [
+            tuple([(left + right) % base for left, right in zip(one, other)]) for other in multiples for one in found]
+    return found
 
 
 def first_place(row):

@@ -1,14 +1,10 @@
 """Nets, their starts, and the points and places that these make."""
 
-from evennets.errors import InvalidNet, InvalidStart, TooMany
+from evennets.errors import InvalidNet, InvalidStart
 from evennets.figures import are_rows, is_base, is_row
-from evennets.linear import row_times
+from evennets.limits import MOST_DEPTH, MOST_DIMENSIONS, MOST_WIDTH, check_few_starts
+from evennets.linear import rows_times
 from evennets.wholes import power, reduced
-
-MOST_DIMENSIONS = 6
-MOST_DEPTH = 12
-MOST_WIDTH = 12
-MOST_STARTS = 4096
 
 
 def is_table(base, value):
@@ -56,10 +52,15 @@ def depth_of(net):
     return len(net[1][0])
 
 
+def is_start(net, value):
+    """Whether a value, whatever it is, is a start of the net."""
+    width = width_of(net)
+    return is_row(net[0], value, width, width)
+
+
 def check_start(net, start):
     """Raise InvalidStart for what is no start of the net."""
-    width = width_of(net)
-    if not is_row(net[0], start, width, width):
+    if not is_start(net, start):
         raise InvalidStart(start)
 
 
@@ -75,7 +76,7 @@ def start_at(base, width, number):
 def point_at(net, start):
     """The point of a start, without any checks."""
     base, tables = net
-    return tuple([tuple([row_times(base, row, start) for row in table]) for table in tables])
+    return tuple([rows_times(base, table, start) for table in tables])
 
 
 def fraction_of(base, figures):
@@ -105,7 +106,5 @@ def points_of(net):
     check_net(net)
     base = net[0]
     width = width_of(net)
-    many = power(base, width)
-    if many > MOST_STARTS:
-        raise TooMany(many)
-    return tuple([point_at(net, start_at(base, width, number)) for number in range(many)])
+    check_few_starts(base, width)
+    return tuple([point_at(net, start_at(base, width, number)) for number in range(power(base, width))])

@@ -1,18 +1,14 @@
 """How many dual words have a shape, and how many starts have a lead."""
 
 from evennets.depths import check_depths, check_shape, full_depths, rank_within, ranks_by_depths
-from evennets.errors import TooMany
+from evennets.limits import check_few
 from evennets.nets import check_net, depth_of, width_of
 from evennets.wholes import power
-
-MOST_DEPTHS = 4096
 
 
 def check_few_depths(net):
     """Raise TooMany for a net with more than 4096 depths."""
-    many = power(depth_of(net) + 1, len(net[1]))
-    if many > MOST_DEPTHS:
-        raise TooMany(many)
+    check_few(power(depth_of(net) + 1, len(net[1])))
 
 
 def signed_depths(choices):

@@ -2,7 +2,9 @@
 
 from evennets.errors import InvalidWord
 from evennets.figures import is_row
+from evennets.linear import row_times
 from evennets.nets import depth_of
+from evennets.wholes import power
 
 
 def is_word(net, value):
@@ -49,3 +51,17 @@ def greatest_place(part):
 def shape_of_word(word):
     """The shape of a word, without any checks."""
     return tuple([greatest_place(part) for part in word])
+
+
+def weighs(base, word, figures):
+    """By how much the word weighs a point, or the figures of a box within which it is."""
+    return sum([row_times(base, part, others) for part, others in zip(word, figures)]) % base
+
+
+def words_of_shape(base, shape):
+    """How many words have just this shape."""
+    many = 1
+    for one in shape:
+        if one > 0:
+            many = many * (base - 1) * power(base, one - 1)
+    return many

@@ -33,7 +33,7 @@ class Calls(unittest.TestCase):
             for part in value:
                 self.check_kinds(part)
         else:
-            self.assertIn(type(value), (int, type(None)))
+            self.assertIn(type(value), (int, str, type(None)))
 
     def caught(self, kind, function, arguments):
         """The attributes of the errors that the call raises in all ways, each of just this class."""
@@ -63,3 +63,38 @@ class Calls(unittest.TestCase):
         """The call raises the error, which has no attributes."""
         for attributes in self.caught(kind, function, arguments):
             self.assertEqual(attributes, {})
+
+    def raises(self, wrong, function, *arguments):
+        """The call raises what a `Wrong` tells."""
+        if wrong.index is None:
+            self.refused(wrong.kind, wrong.value, function, *arguments)
+        else:
+            self.told_number(wrong.kind, "index", wrong.index[0], function, *arguments)
+
+    def check_wrong(self, function, right, *wrongs):
+        """Each wrong value of each argument is told, alone and ahead of wrong values of all that stand behind it."""
+        self.assertEqual(len(right), len(wrongs))
+        for at, values in enumerate(wrongs):
+            self.assertGreater(len(values), 0)
+            behind = tuple(others[-1].value for others in wrongs[at + 1:])
+            for wrong in values:
+                self.raises(wrong, function, *right[:at], wrong.value, *right[at + 1:])
+            for wrong in values[:3] + values[-3:]:
+                self.raises(wrong, function, *right[:at], wrong.value, *behind)
+
+
+class Wrong:
+    """A wrong value, and the error that tells it, by the value itself or by an index."""
+
+    def __init__(self, kind, value, index=None):
+        self.kind, self.value, self.index = kind, value, index
+
+
+def given(kind, values):
+    """Each value is told as `given`."""
+    return [Wrong(kind, value) for value in values]
+
+
+def indexed(kind, *pairs):
+    """Each value, told ahead of its index, is told by this."""
+    return [Wrong(kind, value, (index,)) for value, index in pairs]

@@ -49,6 +49,25 @@ def never_bases():
     return any_values() + [11, 7 ** 2, -3, -5, -7, [2], (2, 3), "3"]
 
 
+def never_numbers(least, most):
+    """Values that are no whole number from the least to the most."""
+    others = [value for value in any_values() if not (type(value) is int and least <= value <= most)]
+    return others + [least - 1, most + 1, most + 2, -most - 1, str(most), (most,)]
+
+
+def never_fractions():
+    """Values that are no fraction."""
+    return any_values() + [
+        (1, 0), (0, 0), (0, 2), (0, -1), (2, 4), (1, -1), (-1, -1), (6, 3), (2, 2), (-2, 4), (1, 2, 3), (1,), [1, 2],
+        (True, 1), (1, True), (False, 1), (None, 1), (1, None), ("1", 2), ((1, 2), (1, 2)), (10 ** 399, 10), "12", b"12",
+        Fraction(1, 2), {1: 2}, (1, 2 + 0j), (0, False)]
+
+
+def never_fractions_from_nought():
+    """Values that are no fraction from 0 on."""
+    return never_fractions() + [(-1, 1), (-1, 2), (-(10 ** 399), 1)]
+
+
 def made_rows(seed, base, many, length):
     """So many rows, the same ones for the same seed."""
     chance = random.Random(repr((seed, base, many, length)))

@@ -52,6 +52,90 @@ SHAPES = """
 [(((0, 0), 1), ((1, 2), 1), ((2, 1), 1), ((2, 2), 1)), (((0, 0), 1), ((0, 1), 1), ((1, 0), 1), ((2, 2), 1)), (1, 0, 0, 2, 1), (1, 0, 1, 0, 2)]
 """
 
+BOUNDS = """
+>>> from evennets.bounds import ball_size, barred_by, grown_net, will_grow
+>>> [ball_size(2, 2, 2, 1), ball_size(2, 2, 2, 4), ball_size(3, 1, 2, 2), ball_size(2, 6, 4, 2)]
+[3, 16, 9, 34]
+>>> [barred_by(2, 2, 3, 2), barred_by(2, 2, 4, 2), barred_by(2, 3, 3, 4), barred_by(2, 5, 6, 4), will_grow(2, 2, 3, 2), will_grow(2, 2, 4, 2), grown_net(2, 2, 4, 2)]
+[None, 'lines', 'width', 'ball', True, False, None]
+>>> grown_net(2, 2, 3, 2)
+(2, (((1, 0), (0, 1)), ((0, 1), (1, 0)), ((1, 1), (1, 0))))
+"""
+
+WAVES = """
+>>> from evennets.waves import error_square, gain, mean_error, rests, scrambled_square
+>>> one, two, half, nil = (1, 1), (2, 1), (1, 2), (0, 1)
+>>> [rests(bits, ((1, 0), (0, 1))), rests(bits, ((1, 0), (0, 0))), rests(three, ((1, 0), (0, 0), (0, 0), (0, 0)))]
+[(4, 0), (2, 2), (3, 3, 3)]
+>>> [mean_error(bits, (1, 1), (one, two, nil, (5, 1))), mean_error(flat, (1, 1), (one, nil, nil, nil)), error_square(bits, (one, one)), error_square(bits, (one, nil))]
+[(0, 1), (1, 4), (9, 256), (0, 1)]
+>>> [gain(bits, (1, 1)), gain(bits, (1, 2)), gain(bits, (2, 2)), scrambled_square(bits, (((1, 2), one), ((1, 1), (5, 1))))]
+[(0, 1), (1, 2), (1, 4), (1, 2)]
+"""
+
+NEWS = """
+>>> from evennets.evens import strength
+>>> from evennets.news import cut_depth, led_starts, put_together, scrambled, stacked, stretched, with_dimensions
+>>> [put_together(flat, (2, (((1,), (0,)),))), stacked((2, (((1,),),)), (2, (((1,),),))), with_dimensions(bits, (1,)), cut_depth(bits, 1)]
+[(2, (((1, 0, 0), (0, 1, 0)), ((1, 0, 0), (0, 1, 0)), ((0, 0, 1), (0, 0, 0)))), (2, (((1, 1),), ((0, 1),))), (2, (((0, 1), (1, 0)),)), (2, (((1, 0),), ((0, 1),)))]
+>>> [stretched(bits, 0, 1), scrambled(bits, (((1, 0), (1, 1)), ((1, 0), (0, 1)))), led_starts(bits, ((1, 1), (0, 1)))]
+[(2, (((1,),), ((1,),))), (2, (((1, 0), (1, 1)), ((0, 1), (1, 0)))), (2, (((1, 1), (0, 1)), ((0, 1), (1, 1))))]
+>>> [strength(put_together(bits, flat)), strength(stacked(flat, bits)), strength(stretched(bits, 0, 1))]
+[1, 2, 1]
+"""
+
+# What the examples of sequences take from the one of evens.
+STRENGTH = """
+>>> from evennets.evens import strength
+"""
+
+SEQUENCES = """
+>>> from evennets.sequences import narrowed, pascal_net, row_at, sequence_net, sure_loss, tight_powers, with_turned
+>>> x, one_more, square = (0, 1), (1, 1), (1, 1, 1)
+>>> [row_at(2, x, 1, 3), row_at(2, x, 2, 3), row_at(2, one_more, 1, 3), row_at(2, one_more, 2, 3), row_at(2, square, 1, 6), row_at(2, square, 2, 4), row_at(3, (1, 1), 1, 4)]
+[(1, 0, 0), (0, 1, 0), (1, 1, 1), (0, 1, 0), (0, 1, 1, 0, 1, 1), (1, 1, 0, 1), (1, 2, 1, 2)]
+>>> [sequence_net(2, (x, one_more), 2, 2), sure_loss(2, (x, one_more, square)), pascal_net(3, 3, 2) == (3, three[1][:1] + three[1][2:]), strength(with_turned(pascal_net(3, 3, 2))), narrowed(bits, 1), with_turned((2, (unit,))) == bits]
+[(2, (((1, 0), (0, 1)), ((1, 1), (0, 1)))), 1, True, 2, (2, (((1,), (0,)), ((0,), (1,)))), True]
+"""
+
+RULES = """
+>>> from evennets.rules import best_multiplier, chain_strength, divides_word, is_rule, quotient_degrees, rule_net
+>>> both = (2, (1, 1, 1), ((1,), (0, 1)))
+>>> [rule_net(both), quotient_degrees(2, (1, 1, 1), (0, 1)), quotient_degrees(2, (1, 1, 1), (1,)), chain_strength(2, (1, 1, 1), (0, 1)), chain_strength(2, (1, 1, 1), (1,)), best_multiplier(2, (1, 1, 1))]
+[(2, (((0, 1), (1, 1)), ((1, 1), (1, 0)))), (1, 1), (2,), 2, 1, (0, 1)]
+>>> [divides_word(both, ((1, 1), (0, 1))), divides_word(both, ((0, 1), (1, 0))), divides_word(both, ((1, 0), (1, 0))), is_rule((2, (1, 1, 1), ((1, 1, 1),)))]
+[True, True, False, False]
+>>> chain_strength(2, (0, 0, 1), (0, 1))
+Traceback (most recent call last):
+evennets.errors.NotFree
+"""
+
+GENERATORS = """
+>>> from evennets.generators import are_same_streams, is_one_round, jumped, parity_of, round_of, staircase, stray_start, stream, windows_net
+>>> gold = (2, ((0, 1), (1, 1)), ((1, 0),))
+>>> [stream(gold, (1, 0), 4), jumped(gold, (1, 0), 3), jumped(gold, (1, 0), 10 ** 30), windows_net(gold, 2), staircase(gold), parity_of(gold, 3, 1), parity_of(gold, 2, 1)]
+[((1,), (0,), (1,), (1,)), (1, 0), (0, 1), (2, (((1, 0),), ((0, 1),))), (2,), ((1,), (1,), (1,)), None]
+>>> calm = (2, ((1, 0), (0, 0)), ((1, 0),))
+>>> [round_of(gold, (1, 0)), round_of(gold, (0, 0)), round_of(calm, (0, 1)), is_one_round(gold), is_one_round(calm), are_same_streams(gold, (1, 1), gold, (1, 0)), stray_start(gold, gold), stray_start(calm, gold) in ((1, 0), (1, 1))]
+[(0, 3), (0, 1), (1, 1), True, False, False, None, True]
+"""
+
+# What the examples of the checker and of the certificates take from the ones ahead of them.
+GOLD = """
+>>> gold = (2, ((0, 1), (1, 1)), ((1, 0),))
+"""
+
+CERTIFICATES = """
+>>> from evennets.certificates import certify_depths, certify_size, certify_strength, certify_windows, certify_word
+>>> from evennets.checker import accepts
+>>> [certify_depths(bits, (1, 1)), certify_strength(bits, 2)[0][0], certify_strength(flat, 2)[0], certify_word(bits, ((1, 0), (0, 1))), certify_windows(gold, 3, 1)[0][0]]
+[(('even', (2, (((1, 0), (0, 1)), ((0, 1), (1, 0)))), (1, 1)), ()), 'strength', ('weakness', (2, (((1, 0), (0, 1)), ((1, 0), (0, 1)))), 2), (('dual', (2, (((1, 0), (0, 1)), ((0, 1), (1, 0)))), ((1, 0), (0, 1))), ()), 'tied windows']
+>>> [accepts(("uneven", flat, (1, 1)), (((1, 0), (1, 0)), ((0,), (1,)))), accepts(("uneven", flat, (1, 1)), (((1, 0), (1, 0)), ((1,), (1,)))), accepts(("weakness", flat, 2), ((1, 0), (1, 0))), accepts(("strength", flat, 2), ()), accepts(("found", 2, 2, 3, 2), (2, (unit, turned, ((1, 1), (0, 1)))))]
+[True, False, True, False, True]
+>>> [certify_size(2, 2, 4, 2), accepts(("barred", 2, 2, 4, 2), "ball"), accepts(("tight", 2, ((1, 1, 1),), (1,)), ()), accepts(("one stream", gold, (1, 0), gold, (1, 0)), ()), accepts(("two streams", gold, (1, 1), gold, (1, 0)), 1)]
+[(('barred', 2, 2, 4, 2), 'lines'), False, True, True, True]
+"""
+
 
 class Examples(unittest.TestCase):
     def check(self, name, text):
@@ -75,6 +159,27 @@ class Examples(unittest.TestCase):
 
     def test_shapes(self):
         self.check("shapes", SETUP + SHAPES)
+
+    def test_bounds(self):
+        self.check("bounds", BOUNDS)
+
+    def test_waves(self):
+        self.check("waves", SETUP + WAVES)
+
+    def test_news(self):
+        self.check("news", SETUP + NEWS)
+
+    def test_sequences(self):
+        self.check("sequences", SETUP + STRENGTH + SEQUENCES)
+
+    def test_rules(self):
+        self.check("rules", RULES)
+
+    def test_generators(self):
+        self.check("generators", GENERATORS)
+
+    def test_certificates_and_checker(self):
+        self.check("certificates", SETUP + GOLD + CERTIFICATES)
 
 
 if __name__ == "__main__":

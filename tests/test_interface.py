@@ -22,6 +22,36 @@ FUNCTIONS = {
     "shapes": {
         "words_within": ["net", "depths"], "begun_with_noughts": ["net", "depths"], "shape_count": ["net", "shape"],
         "lead_count": ["net", "lead"], "shape_counts": ["net"], "lead_counts": ["net"], "weight_counts": ["net"]},
+    "bounds": {
+        "ball_size": ["base", "dimensions", "depth", "weight"], "barred_by": ["base", "width", "dimensions", "size"],
+        "will_grow": ["base", "width", "dimensions", "size"], "grown_net": ["base", "width", "dimensions", "size"]},
+    "waves": {
+        "rests": ["net", "word"], "mean_error": ["net", "depths", "values"], "error_square": ["net", "gammas"],
+        "gain": ["net", "shape"], "scrambled_square": ["net", "sums"]},
+    "news": {
+        "put_together": ["net", "other"], "stacked": ["net", "other"], "with_dimensions": ["net", "dimensions"],
+        "cut_depth": ["net", "depth"], "stretched": ["net", "dimension", "number"], "scrambled": ["net", "lowers"],
+        "led_starts": ["net", "table"]},
+    "sequences": {
+        "row_at": ["base", "polynomial", "place", "width"], "sequence_net": ["base", "polynomials", "depth", "width"],
+        "sure_loss": ["base", "polynomials"], "tight_powers": ["base", "polynomials"],
+        "pascal_net": ["base", "dimensions", "width"], "narrowed": ["net", "width"], "with_turned": ["net"]},
+    "rules": {
+        "is_rule": ["value"], "rule_net": ["rule"], "divides_word": ["rule", "word"],
+        "quotient_degrees": ["base", "modulus", "polynomial"], "chain_strength": ["base", "modulus", "polynomial"],
+        "best_multiplier": ["base", "modulus"]},
+    "generators": {
+        "is_generator": ["value"], "stream": ["generator", "start", "number"], "jumped": ["generator", "start", "steps"],
+        "windows_net": ["generator", "windows"], "staircase": ["generator"],
+        "parity_of": ["generator", "windows", "figures"], "round_of": ["generator", "start"],
+        "is_one_round": ["generator"], "are_same_streams": ["generator", "start", "other", "begin"],
+        "stray_start": ["generator", "other"]},
+    "checker": {"accepts": ["claim", "paper"]},
+    "certificates": {
+        "certify_depths": ["net", "depths"], "certify_strength": ["net", "number"], "certify_word": ["net", "word"],
+        "certify_inside": ["net", "other"], "certify_size": ["base", "width", "dimensions", "size"],
+        "certify_error": ["net", "gammas"], "certify_windows": ["generator", "windows", "figures"],
+        "certify_streams": ["generator", "start", "other", "begin"]},
 }
 
 
