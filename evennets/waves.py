@@ -1,7 +1,5 @@
 """Words as waves, mean errors of functions, and what is left of these over all scrambles."""
 
-from math import lcm
-
 from evennets.depths import are_depths, check_depths, full_depths, rows_within
 from evennets.duals import word_sum
 from evennets.errors import InvalidValues, InvalidWeights
@@ -9,7 +7,7 @@ from evennets.limits import check_few, check_few_starts
 from evennets.linear import columns, first_place, row_sums
 from evennets.nets import check_net, depth_of, width_of
 from evennets.shapes import shape_count
-from evennets.wholes import is_fraction, is_fraction_from_nought, plus, power, reduced, times_fraction
+from evennets.wholes import is_fraction, is_fraction_from_nought, power, reduced, times_fraction, total_of
 from evennets.words import check_word, parted, words_of_shape
 
 
@@ -91,15 +89,6 @@ def starts_by_boxes(net, depths):
     return counts
 
 
-def mean_of(values, counts):
-    """The mean of fractions, each of them counted so many times."""
-    common = 1
-    for _, below in values:
-        common = lcm(common, below)
-    total = sum([many * above * (common // below) for many, (above, below) in zip(counts, values)])
-    return reduced(total, common * sum(counts))
-
-
 def mean_error(net, depths, values):
     """The mean of the values at the points of all starts, less the mean of all values."""
     check_net(net)
@@ -107,8 +96,10 @@ def mean_error(net, depths, values):
     boxes = power(net[0], sum(depths))
     check_values(boxes, values)
     check_few_starts(net[0], width_of(net))
-    above, below = mean_of(values, (1,) * boxes)
-    return plus(mean_of(values, starts_by_boxes(net, depths)), (-above, below))
+    starts = power(net[0], width_of(net))
+    # A value counts as often as there are starts in its box, less as often as all values do.
+    counts = [reduced(many * boxes - starts, starts * boxes) for many in starts_by_boxes(net, depths)]
+    return total_of([times_fraction(count, value) for count, value in zip(counts, values)])
 
 
 def noughts_ahead(figures):
@@ -172,8 +163,4 @@ def scrambled_square(net, sums):
     """The sum of the gains of the shapes, but that of noughts, each times the fraction beside it."""
     check_net(net)
     check_sums(net, sums)
-    total = (0, 1)
-    for shape, fraction in sums:
-        if any(shape):
-            total = plus(total, times_fraction(gain(net, shape), fraction))
-    return total
+    return total_of([times_fraction(gain(net, shape), fraction) for shape, fraction in sums if any(shape)])

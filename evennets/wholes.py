@@ -50,6 +50,16 @@ def times_fraction(fraction, other):
     return reduced(fraction[0] * other[0], fraction[1] * other[1])
 
 
+def total_of(fractions):
+    """The sum of any number of fractions."""
+    sums = [(0, 1)] + fractions
+    # Neighbours are added first: great numbers below come together late that way, and seldom.
+    while len(sums) > 1:
+        pairs = [plus(one, other) for one, other in zip(sums[::2], sums[1::2])]
+        sums = pairs + sums[2 * len(pairs):]
+    return sums[0]
+
+
 def prime_factors(number):
     """The primes that divide a number from 1 on, each once, ascending."""
     primes = []
